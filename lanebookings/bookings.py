@@ -1,0 +1,41 @@
+"""What a booking is, and when bookings are as told."""
+
+NUMBERS_OF_EACH = 3
+MOST_BOOKINGS = 6
+LAST_END = 12
+WIDEST = 8
+
+
+class Booking:
+    """From an hour up to, not with, another one; so many lanes wide."""
+
+    def __init__(self, begin, end, wide):
+        self.begin = begin
+        self.end = end
+        self.wide = wide
+
+    def is_as_told(self):
+        """Whether the hours and the width are among those a booking may have."""
+        return 0 <= self.begin < self.end <= LAST_END and 1 <= self.wide <= WIDEST
+
+    def shares_hour_with(self, other):
+        """Whether the two have an hour in common."""
+        # The end isn't one of the hours, so two that meet there share none.
+        return self.begin < other.end and other.begin < self.end
+
+
+def read_bookings(numbers):
+    """The bookings that are told as three numbers each, one behind another."""
+    return [
+        Booking(numbers[at], numbers[at + 1], numbers[at + 2])
+        for at in range(0, len(numbers), NUMBERS_OF_EACH)
+    ]
+
+
+def are_as_told(numbers):
+    """Whether the numbers tell bookings, not too many, each as it may be."""
+    if len(numbers) % NUMBERS_OF_EACH != 0:
+        return False
+    if len(numbers) > NUMBERS_OF_EACH * MOST_BOOKINGS:
+        return False
+    return all([booking.is_as_told() for booking in read_bookings(numbers)])
