@@ -1,10 +1,15 @@
 """The calls: what is asked about bookings, and what is answered."""
 
 from lanebookings.bookings import are_as_told, read_bookings
-from lanebookings.ways import is_right
+from lanebookings.ways import find_first_way, is_right
 
 MOST_LANES = 24
 MOST_FIRST = 100
+
+
+def are_lanes_as_told(lanes):
+    """Whether there are not too many lanes."""
+    return 0 <= lanes <= MOST_LANES
 
 
 def are_firsts_as_told(firsts, how_many):
@@ -19,7 +24,7 @@ def right(lanes, bookings, firsts):
 
     The refusal [-22] is for bookings, lanes or first lanes that aren't as told.
     """
-    if not are_as_told(bookings) or not 0 <= lanes <= MOST_LANES:
+    if not are_as_told(bookings) or not are_lanes_as_told(lanes):
         return [-22]
     told = read_bookings(bookings)
     if not are_firsts_as_told(firsts, len(told)):
@@ -27,3 +32,17 @@ def right(lanes, bookings, firsts):
     if is_right(lanes, told, firsts):
         return [1]
     return [0]
+
+
+def put(lanes, bookings):
+    """Answers how many bookings, then the first lanes of the first right way.
+
+    The refusal [-22] is for bookings or lanes that aren't as told, [-33] if
+    there's no right way.
+    """
+    if not are_as_told(bookings) or not are_lanes_as_told(lanes):
+        return [-22]
+    firsts = find_first_way(lanes, read_bookings(bookings))
+    if firsts is None:
+        return [-33]
+    return [len(firsts)] + firsts

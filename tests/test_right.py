@@ -4,31 +4,7 @@ import itertools
 import unittest
 
 from lanebookings.lanes import right
-
-TOP = 4294967295
-
-
-def refuse_change(self, *args, **kwargs):
-    raise AssertionError("what was handed in was changed")
-
-
-class Unchanging(list):
-    """A list that can't be changed, so that a change that's taken back is seen too."""
-
-    append = clear = extend = insert = pop = remove = reverse = sort = refuse_change
-    __setitem__ = __delitem__ = __iadd__ = __imul__ = refuse_change
-
-
-def right_by_cells(lanes, bookings, firsts):
-    """What right should answer, found by marking every lane in every hour."""
-    taken = set()
-    for number, first in enumerate(firsts):
-        begin, end, wide = bookings[3 * number:3 * number + 3]
-        for cell in itertools.product(range(begin, end), range(first, first + wide)):
-            if cell in taken or cell[1] >= lanes:
-                return [0]
-            taken.add(cell)
-    return [1]
+from tests.helpers import TOP, EachCallByItself, is_right_by_cells
 
 
 class OrdinaryWays(unittest.TestCase):
@@ -202,58 +178,23 @@ class WrongInputs(unittest.TestCase):
         self.assert_refused(0, [0, 1, 2, 0, 1, 2], [5])
 
 
-class EachCallByItself(unittest.TestCase):
+class RightByItself(EachCallByItself, unittest.TestCase):
+    call = staticmethod(right)
     CALLS = (
-        (5, (9, 11, 2, 10, 12, 3), (0, 2)),
-        (5, (9, 11, 2, 10, 12, 3), (0, 1)),
-        (4, (9, 11, 2, 10, 12, 3), (0, 2)),
-        (25, (9, 11, 2, 10, 12, 3), (0, 2)),
-        (5, (9, 11, 2, 10, 13, 3), (0, 2)),
-        (5, (9, 11, 2, 10, 12, 3), (0, 101)),
-        (0, (), ()),
+        ((5, (9, 11, 2, 10, 12, 3), (0, 2)), [1]),
+        ((5, (9, 11, 2, 10, 12, 3), (0, 1)), [0]),
+        ((4, (9, 11, 2, 10, 12, 3), (0, 2)), [0]),
+        ((25, (9, 11, 2, 10, 12, 3), (0, 2)), [-22]),
+        ((5, (9, 11, 2, 10, 13, 3), (0, 2)), [-22]),
+        ((5, (9, 11, 2, 10, 12, 3), (0, 101)), [-22]),
+        ((0, (), ()), [1]),
     )
 
-    def test_what_is_handed_in_stays_as_it_was(self):
-        for lanes, bookings, firsts in self.CALLS:
-            handed_bookings, handed_firsts = list(bookings), list(firsts)
-            with self.subTest(lanes=lanes, bookings=bookings, firsts=firsts):
-                right(lanes, handed_bookings, handed_firsts)
-                self.assertEqual(handed_bookings, list(bookings))
-                self.assertEqual(handed_firsts, list(firsts))
-
-    def test_what_is_handed_in_is_not_changed_for_a_while_either(self):
-        for lanes, bookings, firsts in self.CALLS:
-            with self.subTest(lanes=lanes, bookings=bookings, firsts=firsts):
-                answer = right(lanes, list(bookings), list(firsts))
-                self.assertEqual(right(lanes, Unchanging(bookings), Unchanging(firsts)), answer)
-
-    def test_a_second_call_answers_the_same(self):
-        once = [right(lanes, list(bookings), list(firsts)) for lanes, bookings, firsts in self.CALLS]
-        again = [right(lanes, list(bookings), list(firsts)) for lanes, bookings, firsts in self.CALLS]
-        self.assertEqual(once, [[1], [0], [0], [-22], [-22], [-22], [1]])
-        self.assertEqual(again, once)
-
-    def test_a_second_call_with_the_same_lists(self):
+    def test_a_second_call_with_a_list_changed_in_between(self):
         bookings, firsts = [9, 11, 2, 10, 12, 3], [0, 2]
-        self.assertEqual(right(5, bookings, firsts), [1])
         self.assertEqual(right(5, bookings, firsts), [1])
         firsts[1] = 1
         self.assertEqual(right(5, bookings, firsts), [0])
-
-    def test_an_answer_that_is_changed_does_not_change_the_next(self):
-        for lanes, bookings, firsts in self.CALLS:
-            with self.subTest(lanes=lanes, bookings=bookings, firsts=firsts):
-                answer = right(lanes, list(bookings), list(firsts))
-                as_it_was = list(answer)
-                answer.append(7)
-                self.assertEqual(right(lanes, list(bookings), list(firsts)), as_it_was)
-
-    def test_the_answer_is_a_list_of_one_whole_number(self):
-        for lanes, bookings, firsts in self.CALLS:
-            with self.subTest(lanes=lanes, bookings=bookings, firsts=firsts):
-                answer = right(lanes, list(bookings), list(firsts))
-                self.assertIs(type(answer), list)
-                self.assertEqual([type(number) for number in answer], [int])
 
 
 class AgainstMarkedCells(unittest.TestCase):
@@ -264,7 +205,7 @@ class AgainstMarkedCells(unittest.TestCase):
             bookings = [*one, *other]
             for firsts in itertools.product(range(5), repeat=2):
                 answer = right(4, bookings, list(firsts))
-                if answer != right_by_cells(4, bookings, firsts):
+                if answer != [int(is_right_by_cells(4, bookings, firsts))]:
                     self.fail(f"right(4, {bookings}, {list(firsts)}) answered {answer}")
 
     def test_every_way_of_four_bookings(self):
@@ -272,7 +213,7 @@ class AgainstMarkedCells(unittest.TestCase):
         for lanes in range(6):
             for firsts in itertools.product(range(5), repeat=4):
                 answer = right(lanes, bookings, list(firsts))
-                if answer != right_by_cells(lanes, bookings, firsts):
+                if answer != [int(is_right_by_cells(lanes, bookings, firsts))]:
                     self.fail(f"right({lanes}, {bookings}, {list(firsts)}) answered {answer}")
 
 
