@@ -1,4 +1,4 @@
-"""What a booking is, and when bookings are as told."""
+"""What a booking is, when bookings are as told, and how much they ask for."""
 
 NUMBERS_OF_EACH = 3
 MOST_BOOKINGS = 6
@@ -17,6 +17,10 @@ class Booking:
     def is_as_told(self):
         """Whether the hours and the width are among those a booking may have."""
         return 0 <= self.begin < self.end <= LAST_END and 1 <= self.wide <= WIDEST
+
+    def has_hour(self, hour):
+        """Whether the hour is one of its own."""
+        return self.begin <= hour < self.end
 
     def shares_hour_with(self, other):
         """Whether the two have an hour in common."""
@@ -39,3 +43,13 @@ def are_as_told(numbers):
     if len(numbers) > NUMBERS_OF_EACH * MOST_BOOKINGS:
         return False
     return all([booking.is_as_told() for booking in read_bookings(numbers)])
+
+
+def asked_for_in(hour, bookings):
+    """How many lanes the bookings that have the hour ask for together."""
+    return sum([booking.wide for booking in bookings if booking.has_hour(hour)])
+
+
+def most_asked_for(bookings):
+    """How many lanes are asked for in the hour in which it's the most."""
+    return max([asked_for_in(hour, bookings) for hour in range(LAST_END)])

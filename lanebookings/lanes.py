@@ -1,7 +1,7 @@
 """The calls: what is asked about bookings, and what is answered."""
 
 from lanebookings.bookings import are_as_told, read_bookings
-from lanebookings.ways import find_first_way, is_right
+from lanebookings.ways import find_fewest, find_first_way, is_right
 
 MOST_LANES = 24
 MOST_FIRST = 100
@@ -46,3 +46,13 @@ def put(lanes, bookings):
     if firsts is None:
         return [-33]
     return [len(firsts)] + firsts
+
+
+def fewest(bookings):
+    """Answers how few lanes are enough for all bookings.
+
+    The refusal [-22] is for bookings that aren't as told.
+    """
+    if not are_as_told(bookings):
+        return [-22]
+    return [find_fewest(read_bookings(bookings))]

@@ -1,4 +1,6 @@
-"""When a way to put bookings is right, and which right way is the first."""
+"""When a way to put bookings is right, which right way is the first, and how few lanes have one."""
+
+from lanebookings.bookings import most_asked_for
 
 
 def share_lane(booking, first, other, other_first):
@@ -91,3 +93,13 @@ def find_first_way(lanes, bookings):
             return None
         firsts.append(first)
     return firsts
+
+
+def find_fewest(bookings):
+    """The least number of lanes for which there's a right way."""
+    lanes = most_asked_for(bookings)
+    # Even where all that's asked for has room, it may not be cut up as it must
+    # be: each booking needs the same lanes, beside one another, in all its hours.
+    while not has_way(lanes, bookings, []):
+        lanes += 1
+    return lanes

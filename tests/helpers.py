@@ -4,6 +4,9 @@ import itertools
 
 TOP = 4294967295
 
+# The first of these must stand on lane 1 of three, between two that change.
+FIRST_BETWEEN_OTHERS = [1, 2, 1, 0, 1, 2, 1, 3, 1, 0, 2, 1, 2, 3, 2]
+
 # Each of these is refused by every call that is handed bookings.
 WRONG_BOOKINGS = {
     "not three numbers for each booking": (

@@ -1,4 +1,4 @@
-"""Tests of lanebookings.lanes.put: promise 2 and what holds a, and promise 1 as far as they speak of put."""
+"""Tests of lanebookings.lanes.put: promises 1 and 2 as far as they speak of it, and what holds a."""
 
 import itertools
 import unittest
@@ -7,12 +7,9 @@ from lanebookings.bookings import read_bookings
 from lanebookings.lanes import put, right
 from lanebookings.ways import find_first_way
 from tests.helpers import (
-    TOP, WRONG_BOOKINGS, EachCallByItself, first_way_by_trying, in_a_row, in_threes, is_right_by_cells,
-    peak_by_counting,
+    FIRST_BETWEEN_OTHERS, TOP, WRONG_BOOKINGS, EachCallByItself, first_way_by_trying, in_a_row, in_threes,
+    is_right_by_cells, peak_by_counting,
 )
-
-# The first of these must stand on lane 1 of three, between two that change.
-FIRST_BETWEEN_OTHERS = [1, 2, 1, 0, 1, 2, 1, 3, 1, 0, 2, 1, 2, 3, 2]
 
 
 class OrdinaryBookings(unittest.TestCase):
