@@ -75,7 +75,7 @@ class Edges(unittest.TestCase):
                 self.assertEqual(put(lanes, bookings), [3, 0, 1, 2])
 
     def test_more_lanes_than_the_peak_needed(self):
-        # No six bookings need more lanes than the peak, but these seven do. As no
+        # No six bookings were found that need more than the peak; these seven do. As no
         # call takes seven, the search is asked by itself.
         bookings = [0, 1, 3, 0, 3, 1, 1, 2, 2, 1, 4, 1, 2, 5, 1, 3, 4, 2, 4, 5, 3]
         self.assertEqual(peak_by_counting(bookings), 4)
