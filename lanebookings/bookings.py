@@ -53,3 +53,12 @@ def asked_for_in(hour, bookings):
 def most_asked_for(bookings):
     """How many lanes are asked for in the hour in which it's the most."""
     return max([asked_for_in(hour, bookings) for hour in range(LAST_END)])
+
+
+def peak_hours(bookings):
+    """The hours in which the most is asked for, rising."""
+    most = most_asked_for(bookings)
+    # Where nothing is asked for at all, all hours are alike, but none counts.
+    if most == 0:
+        return []
+    return [hour for hour in range(LAST_END) if asked_for_in(hour, bookings) == most]

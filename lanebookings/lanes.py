@@ -1,6 +1,6 @@
 """The calls: what is asked about bookings, and what is answered."""
 
-from lanebookings.bookings import are_as_told, read_bookings
+from lanebookings.bookings import are_as_told, most_asked_for, peak_hours, read_bookings
 from lanebookings.ways import find_fewest, find_first_way, is_right
 
 MOST_LANES = 24
@@ -56,3 +56,15 @@ def fewest(bookings):
     if not are_as_told(bookings):
         return [-22]
     return [find_fewest(read_bookings(bookings))]
+
+
+def peak(bookings):
+    """Answers the most that's asked for in an hour, then in how many hours, then these.
+
+    The refusal [-22] is for bookings that aren't as told.
+    """
+    if not are_as_told(bookings):
+        return [-22]
+    told = read_bookings(bookings)
+    hours = peak_hours(told)
+    return [most_asked_for(told), len(hours)] + hours

@@ -47,12 +47,17 @@ def in_a_row(threes):
     return [number for three in threes for number in three]
 
 
-def peak_by_counting(bookings):
-    """The most lanes that are asked for in an hour."""
-    return max(
+def asked_for_by_counting(bookings):
+    """How many lanes are asked for in each of the twelve hours."""
+    return [
         sum(wide for begin, end, wide in in_threes(bookings) if hour in range(begin, end))
         for hour in range(12)
-    )
+    ]
+
+
+def peak_by_counting(bookings):
+    """The most lanes that are asked for in an hour."""
+    return max(asked_for_by_counting(bookings))
 
 
 def is_right_by_cells(lanes, bookings, firsts):
