@@ -6,6 +6,11 @@ LAST_END = 12
 WIDEST = 8
 
 
+def is_width_as_told(wide):
+    """Whether it's a width that a booking may have."""
+    return 1 <= wide <= WIDEST
+
+
 class Booking:
     """From an hour up to, not with, another one; so many lanes wide."""
 
@@ -16,7 +21,7 @@ class Booking:
 
     def is_as_told(self):
         """Whether the hours and the width are among those a booking may have."""
-        return 0 <= self.begin < self.end <= LAST_END and 1 <= self.wide <= WIDEST
+        return 0 <= self.begin < self.end <= LAST_END and is_width_as_told(self.wide)
 
     def has_hour(self, hour):
         """Whether the hour is one of its own."""

@@ -1,15 +1,18 @@
 """The calls: what is asked about bookings, and what is answered."""
 
-from lanebookings.bookings import are_as_told, most_asked_for, peak_hours, read_bookings
-from lanebookings.ways import find_fewest, find_first_way, is_right
+from lanebookings.bookings import (
+    MOST_BOOKINGS, are_as_told, is_width_as_told, most_asked_for, peak_hours, read_bookings,
+)
+from lanebookings.ways import find_fewest, find_first_way, has_way, hours_for_one_more, is_right
 
 MOST_LANES = 24
+MOST_LANES_OF_MORE = 12
 MOST_FIRST = 100
 
 
-def are_lanes_as_told(lanes):
-    """Whether there are not too many lanes."""
-    return 0 <= lanes <= MOST_LANES
+def are_lanes_as_told(lanes, most):
+    """Whether there are not more lanes than the most that the call takes."""
+    return 0 <= lanes <= most
 
 
 def are_firsts_as_told(firsts, how_many):
@@ -24,7 +27,7 @@ def right(lanes, bookings, firsts):
 
     The refusal [-22] is for bookings, lanes or first lanes that aren't as told.
     """
-    if not are_as_told(bookings) or not are_lanes_as_told(lanes):
+    if not are_as_told(bookings) or not are_lanes_as_told(lanes, MOST_LANES):
         return [-22]
     told = read_bookings(bookings)
     if not are_firsts_as_told(firsts, len(told)):
@@ -40,7 +43,7 @@ def put(lanes, bookings):
     The refusal [-22] is for bookings or lanes that aren't as told, [-33] if
     there's no right way.
     """
-    if not are_as_told(bookings) or not are_lanes_as_told(lanes):
+    if not are_as_told(bookings) or not are_lanes_as_told(lanes, MOST_LANES):
         return [-22]
     firsts = find_first_way(lanes, read_bookings(bookings))
     if firsts is None:
@@ -68,3 +71,21 @@ def peak(bookings):
     told = read_bookings(bookings)
     hours = peak_hours(told)
     return [most_asked_for(told), len(hours)] + hours
+
+
+def more(lanes, wide, bookings):
+    """Answers in how many hours one more, so wide, for that hour alone, could be put, then these.
+
+    The refusal [-22] is for bookings, lanes or a width that aren't as told, [-28]
+    if there are as many bookings as may be, [-33] if there's no right way for
+    those there are.
+    """
+    if not are_as_told(bookings) or not are_lanes_as_told(lanes, MOST_LANES_OF_MORE) or not is_width_as_told(wide):
+        return [-22]
+    told = read_bookings(bookings)
+    if len(told) == MOST_BOOKINGS:
+        return [-28]
+    if not has_way(lanes, told, []):
+        return [-33]
+    hours = hours_for_one_more(lanes, wide, told)
+    return [len(hours)] + hours

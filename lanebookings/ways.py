@@ -1,6 +1,6 @@
-"""When a way to put bookings is right, which right way is the first, and how few lanes have one."""
+"""When a way to put bookings is right, which is the first, how few lanes have one, and when there's room for more."""
 
-from lanebookings.bookings import most_asked_for
+from lanebookings.bookings import LAST_END, Booking, most_asked_for
 
 
 def share_lane(booking, first, other, other_first):
@@ -103,3 +103,13 @@ def find_fewest(bookings):
     while not has_way(lanes, bookings, []):
         lanes += 1
     return lanes
+
+
+def hours_for_one_more(lanes, wide, bookings):
+    """The hours for each of which alone one more, so wide, has a place beside all others, rising."""
+    # The others may be put anew each time, so what is asked is whether there's
+    # any right way for all of them.
+    return [
+        hour for hour in range(LAST_END)
+        if has_way(lanes, bookings + [Booking(hour, hour + 1, wide)], [])
+    ]
